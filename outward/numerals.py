@@ -1,0 +1,226 @@
+"""Numbers: how they are read from texts, brought to least terms, rounded and written, and what is refused."""
+
+MOST_BYTES = 4096
+MOST_DIGITS = 1300
+MOST_BITS = 4096
+
+FIRST_PLACE = -60
+LAST_PLACE = 60
+
+# The ways of rounding.
+NEAREST = 0
+UP = 1
+DOWN = 2
+AWAY = 3
+TOWARD = 4
+
+# The bytes that stand in a number's text.
+MINUS = 45
+POINT = 46
+STROKE = 47
+NOUGHT = 48
+NINE = 57
+
+
+class Refused(Exception):
+    """A call is refused; the answer is what the call gives back instead."""
+
+    def __init__(self, answer):
+        self.answer = answer
+
+
+class OutOfRange(Refused):
+    """A whole number is beyond what its call takes, or a text is too long."""
+
+    def __init__(self):
+        Refused.__init__(self, [-1])
+
+
+class AtFault(Refused):
+    """A text is not of the form it has to be: which text, and the place of the fault in it."""
+
+    def __init__(self, which, place):
+        Refused.__init__(self, [-3, which, place])
+
+
+class TooLarge(Refused):
+    """A number that was read doesn't fit."""
+
+    def __init__(self):
+        Refused.__init__(self, [-6])
+
+
+class Ratio:
+    """A number in least terms: top (which bears the sign) by bottom (above 0)."""
+
+    def __init__(self, top, bottom):
+        self.top = top
+        self.bottom = bottom
+
+
+class Reader:
+    """Reads one text from its beginning on; it stops at the first byte that can't stand where it is."""
+
+    def __init__(self, text, which):
+        self.text = text
+        self.which = which
+        self.place = 0
+
+    def sees(self, byte):
+        """Tell if this byte is the next one."""
+        return self.place < len(self.text) and self.text[self.place] == byte
+
+    def sees_digit(self):
+        """Tell if the next byte is a digit."""
+        return self.place < len(self.text) and NOUGHT <= self.text[self.place] <= NINE
+
+    def digits(self):
+        """Read digits as a whole number: as many as there are, which have to be 1 to MOST_DIGITS."""
+        start = self.place
+        value = 0
+        while self.sees_digit() and self.place < start + MOST_DIGITS:
+            value = value * 10 + self.text[self.place] - NOUGHT
+            self.place += 1
+        if self.place == start or self.sees_digit():
+            raise AtFault(self.which, self.place)
+        return value
+
+    def number(self):
+        """Read a number's text."""
+        if not self.sees(MINUS):
+            return self.unsigned()
+        self.place += 1
+        size = self.unsigned()
+        return Ratio(-size.top, size.bottom)
+
+    def unsigned(self):
+        """Read a number's text that has no sign."""
+        whole = self.digits()
+        if self.sees(POINT):
+            return self.behind_point(whole)
+        if self.sees(STROKE):
+            return self.behind_stroke(whole)
+        return Ratio(whole, 1)
+
+    def behind_point(self, whole):
+        """Read a point and the digits behind it; whole is what stood ahead of it."""
+        self.place += 1
+        start = self.place
+        part = self.digits()
+        bottom = power_of_ten(self.place - start)
+        return least_terms(whole * bottom + part, bottom)
+
+    def behind_stroke(self, top):
+        """Read a stroke and the denominator behind it; top is what stood ahead of it."""
+        self.place += 1
+        start = self.place
+        bottom = self.digits()
+        if bottom == 0:
+            raise AtFault(self.which, start)
+        return least_terms(top, bottom)
+
+    def finish(self):
+        """Refuse whatever still stands behind what was read."""
+        if self.place < len(self.text):
+            raise AtFault(self.which, self.place)
+
+
+def check_place(d):
+    """Refuse a whole number that is no place."""
+    if d < FIRST_PLACE or d > LAST_PLACE:
+        raise OutOfRange()
+
+
+def check_way(way):
+    """Refuse a whole number that is no way of rounding."""
+    if way > TOWARD:
+        raise OutOfRange()
+
+
+def read_number(text, which):
+    """Give the number that a call's text tells, or refuse the text."""
+    if len(text) > MOST_BYTES:
+        raise OutOfRange()
+    reader = Reader(text, which)
+    number = reader.number()
+    reader.finish()
+    if not fits(number):
+        raise TooLarge()
+    return number
+
+
+def fits(number):
+    """Tell if numerator, whatever its sign, and denominator are below 2 to the power MOST_BITS."""
+    return abs(number.top).bit_length() <= MOST_BITS and number.bottom.bit_length() <= MOST_BITS
+
+
+def least_terms(top, bottom):
+    """Give top by bottom (above 0) in least terms."""
+    common = common_divisor(abs(top), bottom)
+    return Ratio(top // common, bottom // common)
+
+
+def common_divisor(a, b):
+    """Give the greatest whole number that divides both; they aren't below 0, nor both 0."""
+    while b > 0:
+        rest = a % b
+        a = b
+        b = rest
+    return a
+
+
+def power_of_ten(count):
+    """Give 1 with as many noughts behind it."""
+    power = 1
+    for step in range(count):
+        power = power * 10
+    return power
+
+
+def rounded_units(number, d, way):
+    """Give how many units of place d the number is, rounded the told way."""
+    top = number.top * power_of_ten(max(d, 0))
+    bottom = number.bottom * power_of_ten(max(-d, 0))
+    below = top // bottom
+    if goes_up(top - below * bottom, bottom, below, way):
+        return below + 1
+    return below
+
+
+def goes_up(rest, bottom, below, way):
+    """Tell if (below + rest / bottom) is rounded to below + 1; rest is from 0 to less than bottom."""
+    if rest == 0 or way == DOWN:
+        return False
+    if way == UP:
+        return True
+    if way == NEAREST:
+        return 2 * rest > bottom or (2 * rest == bottom and below % 2 == 1)
+    # With a rest the number lies strictly between below and below + 1, so it has the sign of below.
+    if way == AWAY:
+        return below >= 0
+    return below < 0
+
+
+def exact_text(number):
+    """Write the number itself: a whole number, or a fraction in least terms."""
+    if number.bottom == 1:
+        return str(number.top)
+    return str(number.top) + "/" + str(number.bottom)
+
+
+def units_text(units, d):
+    """Write so many units of place d."""
+    # The sign is that of the units: a number below 0 that was rounded to 0 has none.
+    sign = "-" if units < 0 else ""
+    figures = str(abs(units))
+    if d > 0:
+        figures = figures.zfill(d + 1)
+        return sign + figures[:-d] + "." + figures[-d:]
+    if units == 0:
+        return figures
+    return sign + figures + "0" * -d
+
+
+def told_text(text):
+    """Tell a text: how many bytes, and they."""
+    return [len(text)] + [ord(sign) for sign in text]

@@ -1,0 +1,62 @@
+"""What the tests share: texts as lists of bytes, and a second reckoning of what is to be answered."""
+
+import math
+import re
+from decimal import Decimal
+from fractions import Fraction
+
+LIMIT = 2 ** 4096
+PLACES = range(-60, 61)
+WAYS = range(5)
+
+# The longest beginning that could still become a number's text, and a denominator of noughts.
+BEGINNING = re.compile(rb"-?([0-9]{1,1300}(\.[0-9]{0,1300}|/[0-9]{0,1300})?)?")
+NOUGHTS = re.compile(rb"-?[0-9]{1,1300}/(0{1,1300})(?![0-9])")
+WHOLE = re.compile(rb"-?[0-9]+([./][0-9]+)?")
+
+
+def spell(text):
+    """The bytes of a text."""
+    return list(text.encode("latin-1"))
+
+
+def told(text):
+    """What is given back where this text is told."""
+    return [len(text)] + spell(text)
+
+
+def fault(data):
+    """The place at which a text of at most 4,096 bytes is at fault, or None."""
+    noughts = NOUGHTS.match(data)
+    if noughts:
+        return noughts.start(1)
+    if BEGINNING.fullmatch(data) and WHOLE.fullmatch(data):
+        return None
+    return BEGINNING.match(data).end()
+
+
+def fraction_text(number):
+    """The exact text of a Fraction."""
+    text = str(number.numerator)
+    return text if number.denominator == 1 else f"{text}/{number.denominator}"
+
+
+def rounded(number, way):
+    """A Fraction rounded to a whole number."""
+    if way == 0:
+        return round(number)
+    if way == 1:
+        return math.ceil(number)
+    if way == 2:
+        return math.floor(number)
+    if way == 3:
+        return math.ceil(number) if number > 0 else math.floor(number)
+    return math.trunc(number)
+
+
+def place_text(number, d, way):
+    """A Fraction rounded at a place, as units of it."""
+    units = rounded(number * Fraction(10) ** d, way)
+    if d <= 0:
+        return str(units * 10 ** -d)
+    return format(Decimal((units < 0, tuple(map(int, str(abs(units)))), -d)), "f")
