@@ -1,4 +1,4 @@
-"""Numbers: how they are read from texts, brought to least terms, rounded and written, and what is refused."""
+"""Numbers: how they are read from texts, reckoned with, compared, rounded and written, and what is refused."""
 
 MOST_BYTES = 4096
 MOST_DIGITS = 1300
@@ -6,6 +6,17 @@ MOST_BITS = 4096
 
 FIRST_PLACE = -60
 LAST_PLACE = 60
+
+# What two numbers can be made into.
+SUM = 0
+DIFFERENCE = 1
+PRODUCT = 2
+QUOTIENT = 3
+
+# How two numbers can stand to each other.
+LESS = 0
+SAME = 1
+GREATER = 2
 
 # The ways of rounding.
 NEAREST = 0
@@ -45,6 +56,20 @@ class AtFault(Refused):
 
 class TooLarge(Refused):
     """A number that was read doesn't fit."""
+
+    def __init__(self):
+        Refused.__init__(self, [-6])
+
+
+class QuotientByNought(Refused):
+    """A number was to be parted by 0."""
+
+    def __init__(self):
+        Refused.__init__(self, [-5])
+
+
+class DoesNotFit(Refused):
+    """A number that was made of others doesn't fit."""
 
     def __init__(self):
         Refused.__init__(self, [-6])
@@ -125,6 +150,12 @@ class Reader:
             raise AtFault(self.which, self.place)
 
 
+def check_op(op):
+    """Refuse a whole number that tells nothing to be made of two numbers."""
+    if op > QUOTIENT:
+        raise OutOfRange()
+
+
 def check_place(d):
     """Refuse a whole number that is no place."""
     if d < FIRST_PLACE or d > LAST_PLACE:
@@ -167,6 +198,52 @@ def common_divisor(a, b):
         a = b
         b = rest
     return a
+
+
+def made_of(op, a, b):
+    """Give what op makes of two numbers, or refuse it where there's no such number or it doesn't fit."""
+    if op == SUM:
+        number = sum_of(a, b)
+    elif op == DIFFERENCE:
+        number = sum_of(a, Ratio(-b.top, b.bottom))
+    elif op == PRODUCT:
+        number = product_of(a, b)
+    else:
+        number = product_of(a, inverse(b))
+    if not fits(number):
+        raise DoesNotFit()
+    return number
+
+
+def sum_of(a, b):
+    """Give the sum of two numbers."""
+    return least_terms(a.top * b.bottom + b.top * a.bottom, a.bottom * b.bottom)
+
+
+def product_of(a, b):
+    """Give the product of two numbers."""
+    return least_terms(a.top * b.top, a.bottom * b.bottom)
+
+
+def inverse(number):
+    """Give 1 by the number, or refuse it where the number is 0."""
+    if number.top == 0:
+        raise QuotientByNought()
+    # The sign goes over to the new top: a bottom is above 0.
+    if number.top < 0:
+        return Ratio(-number.bottom, -number.top)
+    return Ratio(number.bottom, number.top)
+
+
+def compared(a, b):
+    """Tell how a stands to b: LESS, SAME or GREATER."""
+    left = a.top * b.bottom
+    right = b.top * a.bottom
+    if left < right:
+        return LESS
+    if left > right:
+        return GREATER
+    return SAME
 
 
 def power_of_ten(count):

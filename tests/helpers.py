@@ -8,6 +8,7 @@ from fractions import Fraction
 LIMIT = 2 ** 4096
 PLACES = range(-60, 61)
 WAYS = range(5)
+OPS = range(4)
 
 # The longest beginning that could still become a number's text, and a denominator of noughts.
 BEGINNING = re.compile(rb"-?([0-9]{1,1300}(\.[0-9]{0,1300}|/[0-9]{0,1300})?)?")
@@ -39,6 +40,16 @@ def fraction_text(number):
     """The exact text of a Fraction."""
     text = str(number.numerator)
     return text if number.denominator == 1 else f"{text}/{number.denominator}"
+
+
+def made(op, first, second):
+    """What is given back where op makes something of two Fractions."""
+    if op == 3 and second == 0:
+        return [-5]
+    number = (first.__add__, first.__sub__, first.__mul__, first.__truediv__)[op](second)
+    if max(abs(number.numerator), number.denominator) >= LIMIT:
+        return [-6]
+    return told(fraction_text(number))
 
 
 def rounded(number, way):
