@@ -1,7 +1,16 @@
-"""The calls: each takes whole numbers and texts (lists of bytes) and gives back one list of whole numbers."""
+"""The calls: each takes whole numbers and texts (lists of bytes) and gives back one list of whole numbers.
 
-from outward.numerals import Refused, check_op, check_place, check_way, read_number
-from outward.numerals import compared, exact_text, made_of, rounded_units, told_text, units_text
+Behind them stands how a value with its bound is shown.
+"""
+
+from outward.numerals import FIRST_PLACE, LAST_PLACE, NEAREST, PLUS_MINUS
+from outward.numerals import Bounded, NoPlace, Refused
+from outward.numerals import check_fits, check_not_below, check_op, check_place, check_way, read_bounded, read_number
+from outward.numerals import compared, exact_text, made_of, number_of_units, power_of_ten, rounded_units
+from outward.numerals import told_text, units_text
+
+# More units of a bound would have three figures.
+MOST_UNITS = 99
 
 
 def exact(t):
@@ -44,3 +53,64 @@ def order(a, b):
     except Refused as refused:
         return refused.answer
     return [compared(first, second)]
+
+
+def shown(v, b):
+    """Answer the number that v tells, with the bound that b tells, at the place that's told for them."""
+    try:
+        text = shown_text(read_given(v, b, 0))
+    except Refused as refused:
+        return refused.answer
+    return told_text(text)
+
+
+def split(t):
+    """Answer the exact texts of the value and of the bound that t tells."""
+    try:
+        told = read_bounded(t, 0)
+        check_fits(told.value)
+        check_fits(told.bound)
+    except Refused as refused:
+        return refused.answer
+    return told_text(exact_text(told.value) + " " + exact_text(told.bound))
+
+
+def read_given(v, b, which):
+    """Give the value that v tells with the bound that b tells, or refuse them; v is text which of its call."""
+    value = read_number(v, which)
+    bound = read_number(b, which + 1)
+    check_not_below(bound)
+    return Bounded(value, bound)
+
+
+def shown_text(given):
+    """Write a value with its bound at the place that's told for them, or refuse them."""
+    d = told_place(given)
+    units = rounded_units(given.value, d, NEAREST)
+    # The bound isn't looked at: so few units of a place always fit.
+    check_fits(number_of_units(units, d))
+    return units_text(units, d) + PLUS_MINUS + units_text(bound_units(given, d), d)
+
+
+def told_place(given):
+    """Give the place at which a value with its bound is shown, or refuse them."""
+    for d in range(FIRST_PLACE, LAST_PLACE + 1):
+        if bound_units(given, d) == 0:
+            return max(d, 0)
+    for d in range(LAST_PLACE, FIRST_PLACE - 1, -1):
+        if bound_units(given, d) <= MOST_UNITS:
+            return d
+    raise NoPlace()
+
+
+def bound_units(given, d):
+    """Give the fewest units of place d that hold the bound and what rounding the value there takes away or adds."""
+    value = given.value
+    bound = given.bound
+    larger = power_of_ten(max(d, 0))
+    smaller = power_of_ten(max(-d, 0))
+    # So many parts make a unit that value, bound and rounded value are whole numbers of them.
+    parts = value.bottom * bound.bottom * smaller
+    lost = abs(rounded_units(value, d, NEAREST) * parts - value.top * bound.bottom * larger)
+    held = bound.top * value.bottom * larger + lost
+    return -(-held // parts)

@@ -32,6 +32,9 @@ STROKE = 47
 NOUGHT = 48
 NINE = 57
 
+# What stands between a value and its bound.
+PLUS_MINUS = " +- "
+
 
 class Refused(Exception):
     """A call is refused; the answer is what the call gives back instead."""
@@ -68,6 +71,20 @@ class QuotientByNought(Refused):
         Refused.__init__(self, [-5])
 
 
+class BelowNought(Refused):
+    """A number is below 0 where none may be."""
+
+    def __init__(self):
+        Refused.__init__(self, [-2])
+
+
+class NoPlace(Refused):
+    """A bound is so great that no place is told for it."""
+
+    def __init__(self):
+        Refused.__init__(self, [-5])
+
+
 class DoesNotFit(Refused):
     """A number that was made of others doesn't fit."""
 
@@ -81,6 +98,14 @@ class Ratio:
     def __init__(self, top, bottom):
         self.top = top
         self.bottom = bottom
+
+
+class Bounded:
+    """A value with its bound: two numbers, of which the bound isn't below 0."""
+
+    def __init__(self, value, bound):
+        self.value = value
+        self.bound = bound
 
 
 class Reader:
@@ -144,6 +169,15 @@ class Reader:
             raise AtFault(self.which, start)
         return least_terms(top, bottom)
 
+    def bounded(self):
+        """Read a value with its bound."""
+        value = self.number()
+        for sign in PLUS_MINUS:
+            if not self.sees(ord(sign)):
+                raise AtFault(self.which, self.place)
+            self.place += 1
+        return Bounded(value, self.unsigned())
+
     def finish(self):
         """Refuse whatever still stands behind what was read."""
         if self.place < len(self.text):
@@ -168,16 +202,42 @@ def check_way(way):
         raise OutOfRange()
 
 
-def read_number(text, which):
-    """Give the number that a call's text tells, or refuse the text."""
+def check_length(text):
+    """Refuse a text that's too long."""
     if len(text) > MOST_BYTES:
         raise OutOfRange()
+
+
+def check_not_below(number):
+    """Refuse a number that's below 0."""
+    if number.top < 0:
+        raise BelowNought()
+
+
+def check_fits(number):
+    """Refuse a number that was made and doesn't fit."""
+    if not fits(number):
+        raise DoesNotFit()
+
+
+def read_number(text, which):
+    """Give the number that a call's text tells, or refuse the text."""
+    check_length(text)
     reader = Reader(text, which)
     number = reader.number()
     reader.finish()
     if not fits(number):
         raise TooLarge()
     return number
+
+
+def read_bounded(text, which):
+    """Give the value with its bound that a call's text tells, whatever their size, or refuse the text."""
+    check_length(text)
+    reader = Reader(text, which)
+    told = reader.bounded()
+    reader.finish()
+    return told
 
 
 def fits(number):
@@ -210,8 +270,7 @@ def made_of(op, a, b):
         number = product_of(a, b)
     else:
         number = product_of(a, inverse(b))
-    if not fits(number):
-        raise DoesNotFit()
+    check_fits(number)
     return number
 
 
@@ -276,6 +335,11 @@ def goes_up(rest, bottom, below, way):
     if way == AWAY:
         return below >= 0
     return below < 0
+
+
+def number_of_units(units, d):
+    """Give the number that's so many units of place d."""
+    return least_terms(units * power_of_ten(max(-d, 0)), power_of_ten(max(d, 0)))
 
 
 def exact_text(number):

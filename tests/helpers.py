@@ -36,10 +36,29 @@ def fault(data):
     return BEGINNING.match(data).end()
 
 
+def bounded_fault(data):
+    """The place at which a value with its bound of at most 4,096 bytes is at fault, or None."""
+    start = data.find(b" ") if b" " in data else len(data)
+    place = fault(data[:start])
+    if place is not None:
+        return place
+    for step, byte in enumerate(b" +- "):
+        if data[start + step:start + step + 1] != bytes([byte]):
+            return start + step
+    bound = data[start + 4:]
+    place = 0 if bound.startswith(b"-") else fault(bound)
+    return None if place is None else start + 4 + place
+
+
 def fraction_text(number):
     """The exact text of a Fraction."""
     text = str(number.numerator)
     return text if number.denominator == 1 else f"{text}/{number.denominator}"
+
+
+def does_not_fit(number):
+    """If a Fraction is beyond what's written as a text."""
+    return max(abs(number.numerator), number.denominator) >= LIMIT
 
 
 def made(op, first, second):
@@ -47,7 +66,7 @@ def made(op, first, second):
     if op == 3 and second == 0:
         return [-5]
     number = (first.__add__, first.__sub__, first.__mul__, first.__truediv__)[op](second)
-    if max(abs(number.numerator), number.denominator) >= LIMIT:
+    if does_not_fit(number):
         return [-6]
     return told(fraction_text(number))
 
@@ -71,3 +90,34 @@ def place_text(number, d, way):
     if d <= 0:
         return str(units * 10 ** -d)
     return format(Decimal((units < 0, tuple(map(int, str(abs(units)))), -d)), "f")
+
+
+def bound_units(value, bound, d):
+    """How many units of a place hold a bound and what rounding the value there takes away or adds; all Fractions."""
+    unit = Fraction(10) ** -d
+    return math.ceil((bound + abs(round(value / unit) * unit - value)) / unit)
+
+
+def shown_place(value, bound):
+    """The place at which a value with its bound is shown, or None; both are Fractions."""
+    units = {d: bound_units(value, bound, d) for d in PLACES}
+    if 0 in units.values():
+        return max(0, min(d for d in PLACES if units[d] == 0))
+    return max((d for d in PLACES if units[d] <= 99), default=None)
+
+
+def shown_pair(value, bound):
+    """What is given back where a value with its bound is shown; both are Fractions, the bound not below 0."""
+    d = shown_place(value, bound)
+    if d is None:
+        return [-5]
+    text = place_text(value, d, 0)
+    if does_not_fit(Fraction(text)):
+        return [-6]
+    return told(text + " +- " + place_text(bound_units(value, bound, d) * Fraction(10) ** -d, d, 0))
+
+
+def read_pair(answer):
+    """The value and the bound, as Fractions, of an answer that tells a value with its bound."""
+    value, bound = bytes(answer[1:]).decode("ascii").split(" +- ")
+    return Fraction(value), Fraction(bound)

@@ -1,4 +1,4 @@
-"""Promise 1 for two and order: each refusal in the first text and in the second, and the first of several.
+"""Promise 1 for two, order and shown: each refusal in the first text and in the second, and the first of several.
 
 Also that these calls change and keep nothing.
 """
@@ -6,7 +6,7 @@ Also that these calls change and keep nothing.
 import itertools
 import unittest
 
-from outward.figures import order, two
+from outward.figures import order, shown, two
 from tests.helpers import LIMIT, OPS, fault, spell, told
 
 QUOTIENT = 3
@@ -33,7 +33,7 @@ TAKEN = ("1", "-2.50", "0", "-0", "7/3", str(LIMIT - 1))
 
 def calls():
     """Every way to call something with two texts that is not refused for its op."""
-    return [order] + [lambda a, b, op=op: two(op, a, b) for op in OPS]
+    return [order, shown] + [lambda a, b, op=op: two(op, a, b) for op in OPS]
 
 
 class Refusals(unittest.TestCase):
@@ -112,6 +112,9 @@ class CallsByThemselves(unittest.TestCase):
         handed = spell("-2.50")
         self.assertEqual([two(op, handed, handed) for op in OPS], [told("-5"), told("0"), told("25/4"), told("1")])
         self.assertEqual(order(handed, handed), [1])
+        self.assertEqual(shown(handed, handed), [-2])
+        handed = spell("2.50")
+        self.assertEqual(shown(handed, handed), told("2.5 +- 2.5"))
 
     def test_called_again_it_is_the_same(self):
         for a, b in itertools.product(self.TEXTS, repeat=2):
