@@ -1,11 +1,12 @@
 """The calls: each takes whole numbers and texts (lists of bytes) and gives back one list of whole numbers.
 
-Behind them stands how a value with its bound is shown.
+Behind them stands how a value with its bound is shown, and how roots are taken.
 """
 
-from outward.numerals import FIRST_PLACE, LAST_PLACE, NEAREST, PLUS_MINUS
+from outward.numerals import FIRST_PLACE, FROM_ABOVE, GREATER, LAST_PLACE, NEAREST, PLUS_MINUS
 from outward.numerals import Bounded, NoPlace, Refused
-from outward.numerals import check_fits, check_not_below, check_op, check_place, check_way, read_bounded, read_number
+from outward.numerals import check_above, check_fits, check_not_below, check_op, check_place, check_way
+from outward.numerals import read_bounded, read_number
 from outward.numerals import compared, exact_text, made_of, number_of_units, power_of_ten, rounded_units
 from outward.numerals import told_text, units_text
 
@@ -75,6 +76,28 @@ def split(t):
     return told_text(exact_text(told.value) + " " + exact_text(told.bound))
 
 
+def root(d, above, t):
+    """Answer the root of the number that t tells, from below or from above, as units of place d."""
+    try:
+        check_place(d)
+        check_above(above)
+        number = read_number(t, 0)
+        check_not_below(number)
+    except Refused as refused:
+        return refused.answer
+    return told_text(units_text(root_units(number, d, above), d))
+
+
+def holds(t, v, b):
+    """Answer if what t tells holds all that the value of v with the bound of b holds: 1 it does, 0 it doesn't."""
+    try:
+        told = read_bounded(t, 0)
+        given = read_given(v, b, 1)
+    except Refused as refused:
+        return refused.answer
+    return [1 if lies_within(given, told) else 0]
+
+
 def read_given(v, b, which):
     """Give the value that v tells with the bound that b tells, or refuse them; v is text which of its call."""
     value = read_number(v, which)
@@ -114,3 +137,30 @@ def bound_units(given, d):
     lost = abs(rounded_units(value, d, NEAREST) * parts - value.top * bound.bottom * larger)
     held = bound.top * value.bottom * larger + lost
     return -(-held // parts)
+
+
+def root_units(number, d, above):
+    """Give how many units of place d the root of a number not below 0 is, from below or from above."""
+    # Top by bottom is the number itself in squares of units: of a rounded one the root may be another.
+    top = number.top * power_of_ten(2 * max(d, 0))
+    bottom = number.bottom * power_of_ten(2 * max(-d, 0))
+    units = whole_root(top // bottom)
+    if above == FROM_ABOVE and units * units * bottom < top:
+        return units + 1
+    return units
+
+
+def whole_root(number):
+    """Give the greatest whole number whose square isn't above a whole number not below 0."""
+    # Each step leads from above the root to nearer above it, or to the very one that's asked for.
+    guess = 1 << ((number.bit_length() + 1) // 2)
+    while guess * guess > number:
+        guess = (guess + number // guess) // 2
+    return guess
+
+
+def lies_within(inner, outer):
+    """Tell if all that one value with its bound holds is held by another."""
+    if compared(outer.lowest(), inner.lowest()) == GREATER:
+        return False
+    return compared(inner.highest(), outer.highest()) != GREATER

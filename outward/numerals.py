@@ -25,6 +25,10 @@ DOWN = 2
 AWAY = 3
 TOWARD = 4
 
+# The sides that a root can be told from.
+FROM_BELOW = 0
+FROM_ABOVE = 1
+
 # The bytes that stand in a number's text.
 MINUS = 45
 POINT = 46
@@ -106,6 +110,14 @@ class Bounded:
     def __init__(self, value, bound):
         self.value = value
         self.bound = bound
+
+    def lowest(self):
+        """Give the least number that's held."""
+        return difference_of(self.value, self.bound)
+
+    def highest(self):
+        """Give the greatest number that's held."""
+        return sum_of(self.value, self.bound)
 
 
 class Reader:
@@ -202,6 +214,12 @@ def check_way(way):
         raise OutOfRange()
 
 
+def check_above(above):
+    """Refuse a whole number that tells no side of a root."""
+    if above > FROM_ABOVE:
+        raise OutOfRange()
+
+
 def check_length(text):
     """Refuse a text that's too long."""
     if len(text) > MOST_BYTES:
@@ -265,7 +283,7 @@ def made_of(op, a, b):
     if op == SUM:
         number = sum_of(a, b)
     elif op == DIFFERENCE:
-        number = sum_of(a, Ratio(-b.top, b.bottom))
+        number = difference_of(a, b)
     elif op == PRODUCT:
         number = product_of(a, b)
     else:
@@ -277,6 +295,11 @@ def made_of(op, a, b):
 def sum_of(a, b):
     """Give the sum of two numbers."""
     return least_terms(a.top * b.bottom + b.top * a.bottom, a.bottom * b.bottom)
+
+
+def difference_of(a, b):
+    """Give what's left of a without b."""
+    return sum_of(a, Ratio(-b.top, b.bottom))
 
 
 def product_of(a, b):

@@ -121,3 +121,19 @@ def read_pair(answer):
     """The value and the bound, as Fractions, of an answer that tells a value with its bound."""
     value, bound = bytes(answer[1:]).decode("ascii").split(" +- ")
     return Fraction(value), Fraction(bound)
+
+
+def root_text(number, d, above):
+    """The root of a Fraction not below 0, from below (0) or from above (1), as units of a place."""
+    squares = number * Fraction(100) ** d
+    if above == 0:
+        units = math.isqrt(math.floor(squares))
+    else:
+        # The least whole number whose square isn't below is one more than the greatest whose square is.
+        units = 1 + math.isqrt(math.ceil(squares) - 1) if squares > 0 else 0
+    return place_text(units * Fraction(10) ** -d, d, 0)
+
+
+def held(value, bound, seen, around):
+    """What's given back for a value with its bound that is to hold what's seen and all around it; all Fractions."""
+    return [int(abs(value - seen) + around <= bound)]

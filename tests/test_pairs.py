@@ -1,13 +1,10 @@
-"""Promise 1 for two, order and shown: each refusal in the first text and in the second, and the first of several.
-
-Also that these calls change and keep nothing.
-"""
+"""Promise 1 for two, order and shown: each refusal in the first text and in the second, and the first of several."""
 
 import itertools
 import unittest
 
 from outward.figures import order, shown, two
-from tests.helpers import LIMIT, OPS, fault, spell, told
+from tests.helpers import LIMIT, OPS, fault, spell
 
 QUOTIENT = 3
 NO_OPS = (4, 5, 4294967294, 4294967295)
@@ -87,53 +84,6 @@ class Refusals(unittest.TestCase):
                 self.assertEqual(two(QUOTIENT, spell(nought), spell(text)), second)
             self.assertEqual(two(QUOTIENT, spell(nought), spell("1/0")), [-3, 1, 2])
             self.assertEqual(two(QUOTIENT, spell(str(LIMIT - 1)), spell(nought)), [-5])
-
-
-class CallsByThemselves(unittest.TestCase):
-
-    TEXTS = TAKEN + ("1.50", "", "12.", "1/0", LARGE, LONG)
-
-    def all_calls(self):
-        return calls() + [lambda a, b: two(4, a, b), lambda a, b: two(4294967295, a, b)]
-
-    def test_what_is_handed_in_stays(self):
-        for a, b in itertools.product(self.TEXTS, repeat=2):
-            first, second = spell(a), spell(b)
-            for call in self.all_calls():
-                call(first, second)
-                self.assertEqual((first, second), (spell(a), spell(b)))
-
-    def test_one_list_as_both_texts(self):
-        for text in self.TEXTS:
-            handed = spell(text)
-            for call in self.all_calls():
-                self.assertEqual(call(handed, handed), call(spell(text), spell(text)))
-                self.assertEqual(handed, spell(text))
-        handed = spell("-2.50")
-        self.assertEqual([two(op, handed, handed) for op in OPS], [told("-5"), told("0"), told("25/4"), told("1")])
-        self.assertEqual(order(handed, handed), [1])
-        self.assertEqual(shown(handed, handed), [-2])
-        handed = spell("2.50")
-        self.assertEqual(shown(handed, handed), told("2.5 +- 2.5"))
-
-    def test_called_again_it_is_the_same(self):
-        for a, b in itertools.product(self.TEXTS, repeat=2):
-            first, second = spell(a), spell(b)
-            for call in self.all_calls():
-                answer = call(first, second)
-                kept = list(answer)
-                self.assertEqual(call(first, second), kept)
-                answer.clear()
-                call(spell("7/8"), spell("-3"))
-                self.assertEqual(call(first, second), kept)
-
-    def test_lists_of_whole_numbers_are_given_back(self):
-        for a, b in itertools.product(self.TEXTS, repeat=2):
-            for call in self.all_calls():
-                answer = call(spell(a), spell(b))
-                self.assertIs(type(answer), list)
-                for number in answer:
-                    self.assertIs(type(number), int)
 
 
 if __name__ == "__main__":

@@ -1,4 +1,4 @@
-"""Promise 1 for exact and at: each refusal alone, and the first of several; and that a call changes and keeps nothing."""
+"""Promise 1 for exact and at: each refusal alone, and the first of several."""
 
 import unittest
 
@@ -61,39 +61,6 @@ class Refusals(unittest.TestCase):
         for way in range(5):
             self.assertEqual(at(-60, way, spell("1/" + TOO_LARGE)), [-6])
             self.assertEqual(at(60, way, spell("0." + "0" * 1299 + "1")), [-6])
-
-
-class CallsByThemselves(unittest.TestCase):
-
-    TEXTS = ("-06/4", "1.50", "0", FAULTY, "", TOO_LARGE, TOO_LONG, "1/0")
-
-    def test_what_is_handed_in_stays(self):
-        for text in self.TEXTS:
-            handed = spell(text)
-            exact(handed)
-            self.assertEqual(handed, spell(text))
-            for d, way in ((0, 0), (3, 1), (-60, 4), (61, 0), (0, 5)):
-                at(d, way, handed)
-                self.assertEqual(handed, spell(text))
-
-    def test_called_again_it_is_the_same(self):
-        for text in self.TEXTS:
-            for call in (exact, lambda t: at(1, 0, t), lambda t: at(61, 0, t)):
-                handed = spell(text)
-                first = call(handed)
-                kept = list(first)
-                self.assertEqual(call(handed), kept)
-                first.clear()
-                self.assertEqual(call(handed), kept)
-                call(spell("7/8"))
-                self.assertEqual(call(handed), kept)
-
-    def test_lists_of_whole_numbers_are_given_back(self):
-        for text in self.TEXTS:
-            for answer in (exact(spell(text)), at(2, 3, spell(text)), at(-61, 3, spell(text))):
-                self.assertIs(type(answer), list)
-                for number in answer:
-                    self.assertIs(type(number), int)
 
 
 if __name__ == "__main__":

@@ -4,7 +4,23 @@ import unittest
 from fractions import Fraction
 
 from outward.figures import at
-from tests.helpers import LIMIT, PLACES, WAYS, place_text, spell, told
+from tests.helpers import LIMIT, PLACES, WAYS, fraction_text, place_text, spell, told
+
+# Numbers in their order, on both sides of 0: units, ties, what lies next to them, and numbers in between.
+LITTLE = Fraction(1, 10 ** 300)
+HALF = Fraction(1, 2)
+NUMBERS = sorted(
+    (size + shift) * unit * sign
+    for size in (0, 1, 2, 3, 9, 10, 49, 99)
+    for shift in (0, LITTLE, Fraction(1, 3), HALF - LITTLE, HALF, HALF + LITTLE, 1 - LITTLE)
+    for unit in (Fraction(1, 10 ** 60), Fraction(1, 100), 1, 1000, 10 ** 60)
+    for sign in (-1, 1)
+)
+
+
+def answered(number, d, way):
+    """What's answered for a Fraction, as a Fraction."""
+    return Fraction(bytes(at(d, way, spell(fraction_text(number)))[1:]).decode("ascii"))
 
 
 class Rounding(unittest.TestCase):
@@ -108,6 +124,30 @@ class Rounding(unittest.TestCase):
         self.gives(str(-top), -60, 3, str((-top) // 10 ** 60 * 10 ** 60))
         self.gives(f"1/{top}", -60, 1, "1" + "0" * 60)
         self.gives(f"{top}/2", 0, 1, str(LIMIT // 2))
+
+    def test_never_a_unit_away_and_on_the_told_side(self):
+        for number in NUMBERS:
+            for d in (-60, -3, -1, 0, 1, 2, 60):
+                unit = Fraction(10) ** -d
+                nearest, up, down, away, toward = (answered(number, d, way) for way in WAYS)
+                for units in (nearest, up, down, away, toward):
+                    self.assertEqual(units % unit, 0)
+                    self.assertLess(abs(units - number), unit)
+                self.assertLessEqual(abs(nearest - number), unit / 2)
+                if abs(nearest - number) == unit / 2:
+                    self.assertEqual(nearest / unit % 2, 0)
+                self.assertGreaterEqual(up, number)
+                self.assertLessEqual(down, number)
+                self.assertGreaterEqual(abs(away), abs(number))
+                self.assertLessEqual(abs(toward), abs(number))
+                self.assertGreaterEqual(away * number, 0)
+                self.assertGreaterEqual(toward * number, 0)
+
+    def test_in_order(self):
+        for d in (-60, -3, -1, 0, 1, 2, 60):
+            for way in WAYS:
+                answers = [answered(number, d, way) for number in NUMBERS]
+                self.assertEqual(answers, sorted(answers), (d, way))
 
     def test_every_place(self):
         for text in ("0", "1/3", "-2/7", "98765432109876543210.98765432109876543210", "-5", "1" + "5" * 70):

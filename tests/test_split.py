@@ -214,33 +214,5 @@ class NextToTheLimit(Case):
             self.answers(f"-5 +- {top}/{bottom}", wanted)
 
 
-class CallsByThemselves(unittest.TestCase):
-
-    TEXTS = ("10.0004 +- 0.0013", "-6/4 +- 1/3", "0 +- 0", "", "5", "5 +- ", "5 +- -1", LARGE + " +- 1", "1" * 4097)
-
-    def test_what_is_handed_in_stays(self):
-        for text in self.TEXTS:
-            handed = spell(text)
-            split(handed)
-            self.assertEqual(handed, spell(text))
-
-    def test_called_again_it_is_the_same(self):
-        for text in self.TEXTS:
-            handed = spell(text)
-            answer = split(handed)
-            kept = list(answer)
-            self.assertEqual(split(handed), kept)
-            answer.clear()
-            split(spell("7/8 +- 3"))
-            self.assertEqual(split(handed), kept)
-
-    def test_lists_of_whole_numbers_are_given_back(self):
-        for text in self.TEXTS:
-            answer = split(spell(text))
-            self.assertIs(type(answer), list)
-            for number in answer:
-                self.assertIs(type(number), int)
-
-
 if __name__ == "__main__":
     unittest.main()
